@@ -1,0 +1,1 @@
+"""rootrow: exact numbers made of one root."""

@@ -1,0 +1,136 @@
+"""The package keeps to the part of Python that it is written in (the rules that can be seen in the text)."""
+
+import ast
+import re
+import unittest
+from pathlib import Path
+
+PACKAGE = Path(__file__).resolve().parent.parent / "rootrows"
+FILES = sorted(PACKAGE.rglob("*.py"))
+
+NODES = set("""
+    Module FunctionDef ClassDef arguments arg Lambda Return Assign AugAssign If While For Break Continue Pass Raise
+    Try ExceptHandler Expr ImportFrom alias Constant List Tuple Dict Set BinOp UnaryOp BoolOp Compare IfExp Call keyword
+    Attribute Subscript Slice ListComp comprehension JoinedStr FormattedValue Name Load Store Add Sub Mult FloorDiv Mod
+    Pow LShift RShift BitAnd BitOr BitXor Invert USub UAdd Not And Or Eq NotEq Lt LtE Gt GtE Is IsNot In NotIn
+""".split())
+
+OWN_NAMES = set("""
+    len range enumerate zip min max sum abs sorted reversed int str bool list tuple dict set frozenset isinstance ord
+    repr any all divmod Exception ValueError TypeError KeyError IndexError LookupError ZeroDivisionError
+    ArithmeticError OverflowError RuntimeError NotImplementedError AttributeError StopIteration
+""".split())
+
+METHODS = set("""
+    append clear copy count endswith extend find get index insert isalnum isalpha isdigit islower isspace isupper items
+    join keys ljust lower lstrip partition pop remove replace reverse rfind rjust rpartition rsplit rstrip setdefault
+    split splitlines startswith strip update upper values zfill bit_length
+""".split())
+
+WORDS_OUT = re.compile(
+    r"\b(type|typing|typing_extensions|enum|Enum|IntEnum|StrEnum|Flag|IntFlag|Generic|Protocol|ABC|ABCMeta|namedtuple"
+    r"|NamedTuple|TypedDict|TYPE_CHECKING|abstractmethod)\b|dataclass|overload|contextmanager")
+
+NAMES_OUT = set("register mro elements open input version_info with_traceback add_note format format_map".split())
+
+
+def tree_of(path):
+    return ast.parse(path.read_text(encoding="utf-8"))
+
+
+def bound_names(tree):
+    """All names that the file itself gives to something."""
+    found = set()
+    for node in ast.walk(tree):
+        if isinstance(node, (ast.FunctionDef, ast.ClassDef)):
+            found.add(node.name)
+        elif isinstance(node, ast.arg):
+            found.add(node.arg)
+        elif isinstance(node, ast.Name) and isinstance(node.ctx, ast.Store):
+            found.add(node.id)
+        elif isinstance(node, ast.Attribute) and isinstance(node.ctx, ast.Store):
+            found.add(node.attr)
+        elif isinstance(node, ast.alias):
+            found.add(node.asname or node.name)
+    return found
+
+
+class LanguageTest(unittest.TestCase):
+
+    def test_files(self):
+        self.assertIn(PACKAGE / "__init__.py", FILES)
+        self.assertIn(PACKAGE / "numbers.py", FILES)
+        for path in PACKAGE.rglob("*"):
+            if "__pycache__" not in path.parts and path.is_file():
+                self.assertRegex(path.name, r"^([a-z][a-z0-9_]*|__init__|__main__)\.py$")
+
+    def test_signs_and_sizes(self):
+        for path in FILES:
+            with self.subTest(file=path.name):
+                tree = tree_of(path)
+                text = path.read_text(encoding="utf-8")
+                self.assertRegex(text, r"\A[ -~\n]*\Z")
+                self.assertLessEqual(len(text.splitlines()), 400)
+                self.assertLessEqual(max(map(len, text.splitlines())), 120)
+                self.assertIsNone(WORDS_OUT.search(text))
+                for node in ast.walk(tree):
+                    if isinstance(node, ast.FunctionDef):
+                        self.assertLessEqual(node.end_lineno - node.lineno + 1, 40, node.name)
+
+    def test_forms(self):
+        for path in FILES:
+            with self.subTest(file=path.name):
+                tree = tree_of(path)
+                for node in ast.walk(tree):
+                    self.assertIn(node.__class__.__name__, NODES)
+                    if isinstance(node, ast.Assign):
+                        self.assertEqual(len(node.targets), 1, node.lineno)
+                    if isinstance(node, (ast.For, ast.While)):
+                        self.assertEqual(node.orelse, [], node.lineno)
+                    if isinstance(node, ast.Try):
+                        self.assertEqual(node.finalbody, [], node.lineno)
+                    if isinstance(node, (ast.FunctionDef, ast.ClassDef)):
+                        self.assertEqual(node.decorator_list, [], node.lineno)
+                    if isinstance(node, ast.arguments):
+                        self.assertEqual((node.vararg, node.kwarg, node.kwonlyargs), (None, None, []))
+                    if isinstance(node, ast.ListComp):
+                        self.assertEqual(len(node.generators), 1, node.lineno)
+                        self.assertLessEqual(len(node.generators[0].ifs), 1, node.lineno)
+                    if isinstance(node, ast.Constant):
+                        self.assertIsInstance(node.value, (int, str, bool, None.__class__))
+                        self.assertNotIn("%", str(node.value))
+                    if isinstance(node, ast.BinOp) and isinstance(node.op, ast.Pow):
+                        self.assertIsInstance(node.right, ast.Constant)
+
+    def test_names(self):
+        for path in FILES:
+            with self.subTest(file=path.name):
+                tree = tree_of(path)
+                bound = bound_names(tree)
+                self.assertEqual(bound & (OWN_NAMES | NAMES_OUT), set())
+                for name in bound:
+                    self.assertRegex(name, r"^([A-Za-z][A-Za-z0-9_]*|__(init|eq|repr|str|len|all|version)__)$")
+                for node in ast.walk(tree):
+                    if isinstance(node, ast.Name):
+                        self.assertIn(node.id, bound | OWN_NAMES, node.lineno)
+                    if isinstance(node, ast.Attribute):
+                        self.assertIn(node.attr, bound | METHODS, node.lineno)
+
+    def test_imports(self):
+        for path in FILES:
+            with self.subTest(file=path.name):
+                tree = tree_of(path)
+                for node in ast.walk(tree):
+                    if isinstance(node, ast.ImportFrom):
+                        self.assertEqual(node.level, 0)
+                        self.assertIn(node, tree.body)
+                        self.assertRegex(node.module, r"^rootrows\.[a-z0-9_]+$")
+                        source = tree_of(PACKAGE / (node.module.split(".")[1] + ".py"))
+                        own = [part for part in source.body if not isinstance(part, ast.ImportFrom)]
+                        defined = bound_names(ast.Module(own, []))
+                        for alias in node.names:
+                            self.assertIn(alias.name, defined)
+
+
+if __name__ == "__main__":
+    unittest.main()

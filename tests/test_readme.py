@@ -1,0 +1,19 @@
+"""What README.md shows is what the program answers."""
+
+import doctest
+import unittest
+from pathlib import Path
+
+README = Path(__file__).resolve().parent.parent / "README.md"
+
+
+class ReadmeTest(unittest.TestCase):
+
+    def test_examples(self):
+        failed, tried = doctest.testfile(str(README), module_relative=False, encoding="utf-8")
+        self.assertEqual(failed, 0)
+        self.assertGreater(tried, 0)
+
+
+if __name__ == "__main__":
+    unittest.main()
