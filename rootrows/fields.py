@@ -4,6 +4,8 @@ A polynomial is a list of whole numbers from the constant on, the last of them n
 A field's row leaves out the highest number of f, which is 1.
 """
 
+from rootrows.divisors import without_divisor
+
 GREATEST_DEGREE = 4
 GREATEST_SIZE = 1000
 
@@ -122,27 +124,6 @@ def without_end_zeros(values):
     while end > 0 and values[end - 1] == 0:
         end -= 1
     return values[:end]
-
-
-def without_divisor(values):
-    """The values divided by their greatest common divisor, as a list of its own."""
-    divisor = 0
-    for number in values:
-        divisor = common_divisor(divisor, number)
-    if divisor == 0:
-        return list(values)
-    return [number // divisor for number in values]
-
-
-def common_divisor(m, n):
-    """The greatest common divisor, not below 0; that of 0 and n is the size of n."""
-    left = abs(m)
-    right = abs(n)
-    while right != 0:
-        rest = left % right
-        left = right
-        right = rest
-    return left
 
 
 def divisors_of(number):

@@ -3,7 +3,11 @@
 The answer is 0 and behind it what is told, or a refusal alone.
 """
 
-from rootrows.fields import count_places, field_refusal, without_divisor
+from rootrows.fields import count_places, field_refusal
+from rootrows.reckoning import added, are_rows, inverse_of, is_zero, multiplied, negated, one_form, raised, whole_row
+
+GREATEST_POWER = 20
+MOST_ROWS = 8
 
 
 def open_of(field):
@@ -27,7 +31,7 @@ def plus(field, a, b):
     refusal = refusal_of(field, [a, b])
     if refusal != 0:
         return [refusal]
-    return [0] + added(a, b)
+    return [0] + one_form(added(a, b))
 
 
 def minus(field, a, b):
@@ -35,7 +39,56 @@ def minus(field, a, b):
     refusal = refusal_of(field, [a, b])
     if refusal != 0:
         return [refusal]
-    return [0] + added(a, negated(b))
+    return [0] + one_form(added(a, negated(b)))
+
+
+def times(field, a, b):
+    """The one form of the product of a and b."""
+    refusal = refusal_of(field, [a, b])
+    if refusal != 0:
+        return [refusal]
+    return [0] + one_form(multiplied(field, a, b))
+
+
+def over(field, a, b):
+    """The one form of a divided by b."""
+    refusal = refusal_of(field, [a, b])
+    if refusal != 0:
+        return [refusal]
+    if is_zero(b):
+        return [-5]
+    return [0] + one_form(multiplied(field, a, inverse_of(field, b)))
+
+
+def power(k, field, a):
+    """The one form of a to the power k, which may be below 0."""
+    refusal = refusal_of(field, [a])
+    if refusal != 0:
+        return [refusal]
+    if abs(k) > GREATEST_POWER:
+        return [-3]
+    if k >= 0:
+        return [0] + one_form(raised(field, a, k))
+    if is_zero(a):
+        return [-5]
+    return [0] + one_form(raised(field, one_form(inverse_of(field, a)), -k))
+
+
+def value(field, rows, x):
+    """The one form of p_0 + p_1 X + p_2 X^2 + ... at X = x, the rows being p_0, p_1, ..., one behind another."""
+    refusal = field_refusal(field)
+    if refusal != 0:
+        return [refusal]
+    degree = len(field)
+    if len(rows) > MOST_ROWS * (degree + 1):
+        return [-3]
+    factors = rows_apart(rows, degree)
+    if not are_rows(factors + [x], degree):
+        return [-9]
+    total = whole_row(0, degree)
+    for factor in reversed(factors):
+        total = added(multiplied(field, total, x), factor)
+    return [0] + one_form(total)
 
 
 def refusal_of(field, operands):
@@ -43,28 +96,12 @@ def refusal_of(field, operands):
     refusal = field_refusal(field)
     if refusal != 0:
         return refusal
-    if all([is_row(operand, len(field)) for operand in operands]):
+    if are_rows(operands, len(field)):
         return 0
     return -9
 
 
-def is_row(operand, degree):
-    """Whether it is the row of a number of a field of that degree."""
-    return len(operand) == degree + 1 and operand[-1] > 0
-
-
-def one_form(a):
-    """The row of the same number with the least denominator.
-
-    The denominator is above 0, so the numbers have a divisor even if the number is 0.
-    """
-    return without_divisor(a)
-
-
-def added(a, b):
-    numerators = [m * b[-1] + n * a[-1] for m, n in zip(a[:-1], b[:-1])]
-    return one_form(numerators + [a[-1] * b[-1]])
-
-
-def negated(a):
-    return [-number for number in a[:-1]] + [a[-1]]
+def rows_apart(numbers, degree):
+    """The numbers cut into rows; what is left over at the end is shorter, so it is none."""
+    width = degree + 1
+    return [numbers[k:k + width] for k in range(0, len(numbers), width)]

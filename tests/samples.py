@@ -5,6 +5,9 @@ from math import lcm
 
 BIG = 2 ** 63 - 1
 
+# One field for each degree is enough where the degree alone matters.
+ONE_EACH = ([-5], [-2, 0], [1, -3, 0], [1, 0, -10, 0])
+
 # Fields that are no products, with how many places they have.
 FIELDS = [
     ([0], 1), ([-5], 1), ([1000], 1), ([-1000], 1),
@@ -58,6 +61,17 @@ def row_of(fractions):
     """The one form of the number with these fractions."""
     least = lcm(*[f.denominator for f in fractions])
     return [f.numerator * (least // f.denominator) for f in fractions] + [least]
+
+
+def product_of_fractions(field, p, q):
+    """The product of two numbers as fractions: x^k times a number is k times its product with x."""
+    d = len(field)
+    answer = [Fraction(0)] * d
+    shifted = list(q)
+    for n in p:
+        answer = [m + n * s for m, s in zip(answer, shifted)]
+        shifted = [s - shifted[-1] * c for s, c in zip([0] + shifted[:-1], field)]
+    return answer
 
 
 def rows_for(d):

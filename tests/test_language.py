@@ -1,6 +1,7 @@
 """The package keeps to the part of Python that it is written in (the rules that can be seen in the text)."""
 
 import ast
+import builtins
 import re
 import unittest
 from pathlib import Path
@@ -32,6 +33,16 @@ WORDS_OUT = re.compile(
     r"|NamedTuple|TypedDict|TYPE_CHECKING|abstractmethod)\b|dataclass|overload|contextmanager")
 
 NAMES_OUT = set("register mro elements open input version_info with_traceback add_note format format_map".split())
+
+# Not to be used as names, though a value of an object may be called so.
+NOT_AS_NAMES = set("""
+    attrgetter breakpoint builtins compile copyright credits delattr dir eval exec exit gc getattr globals hasattr help
+    id importlib license locals methodcaller os quit setattr super type vars sys
+""".split())
+
+WALKED = set("zip enumerate reversed range".split())
+WALKED_METHODS = set("items keys values".split())
+WALKERS = set("list tuple dict sorted sum any all enumerate zip".split())
 
 
 def tree_of(path):
@@ -101,6 +112,7 @@ class LanguageTest(unittest.TestCase):
                         self.assertNotIn("%", str(node.value))
                     if isinstance(node, ast.BinOp) and isinstance(node.op, ast.Pow):
                         self.assertIsInstance(node.right, ast.Constant)
+                        self.assertIn(node.right.value, range(65))
 
     def test_names(self):
         for path in FILES:
@@ -115,6 +127,67 @@ class LanguageTest(unittest.TestCase):
                         self.assertIn(node.id, bound | OWN_NAMES, node.lineno)
                     if isinstance(node, ast.Attribute):
                         self.assertIn(node.attr, bound | METHODS, node.lineno)
+
+    def test_names_are_not_pythons_own(self):
+        for path in FILES:
+            with self.subTest(file=path.name):
+                tree = tree_of(path)
+                imports = {alias.name for node in tree.body if isinstance(node, ast.ImportFrom) for alias in node.names}
+                classes = {node.name for node in tree.body if isinstance(node, ast.ClassDef)}
+                for node in ast.walk(tree):
+                    if isinstance(node, ast.Name):
+                        self.assertNotIn(node.id, NOT_AS_NAMES, node.lineno)
+                    if isinstance(node, ast.arg):
+                        self.assertNotIn(node.arg, imports | classes | set(dir(builtins)), node.lineno)
+                    if isinstance(node, ast.Name) and isinstance(node.ctx, ast.Store):
+                        self.assertNotIn(node.id, imports | classes | set(dir(builtins)), node.lineno)
+
+    def test_each_name_once_at_the_top(self):
+        for path in FILES:
+            with self.subTest(file=path.name):
+                names = []
+                for node in tree_of(path).body:
+                    self.assertIsInstance(node, (ast.Expr, ast.ImportFrom, ast.FunctionDef, ast.ClassDef, ast.Assign))
+                    if isinstance(node, ast.Assign):
+                        names.append(node.targets[0].id)
+                    elif isinstance(node, (ast.FunctionDef, ast.ClassDef)):
+                        names.append(node.name)
+                    elif isinstance(node, ast.ImportFrom):
+                        names.extend(alias.name for alias in node.names)
+                self.assertEqual(len(names), len(set(names)))
+
+    def test_walked_at_once(self):
+        for path in FILES:
+            with self.subTest(file=path.name):
+                tree = tree_of(path)
+                allowed = set()
+                for node in ast.walk(tree):
+                    if isinstance(node, (ast.For, ast.comprehension)):
+                        allowed.add(node.iter)
+                    if isinstance(node, ast.Call) and isinstance(node.func, ast.Name) and node.func.id in WALKERS:
+                        allowed.update(node.args[:1])
+                for node in ast.walk(tree):
+                    if isinstance(node, ast.Call) and node not in allowed:
+                        if isinstance(node.func, ast.Name):
+                            self.assertNotIn(node.func.id, WALKED, node.lineno)
+                        if isinstance(node.func, ast.Attribute):
+                            self.assertNotIn(node.func.attr, WALKED_METHODS, node.lineno)
+
+    def test_is_stands_beside_none_true_false(self):
+        for path in FILES:
+            for node in ast.walk(tree_of(path)):
+                if isinstance(node, ast.Compare) and isinstance(node.ops[0], (ast.Is, ast.IsNot)):
+                    self.assertIsInstance(node.comparators[0], ast.Constant, (path.name, node.lineno))
+                    self.assertIn(node.comparators[0].value, (None, True, False), (path.name, node.lineno))
+
+    def test_no_two_files_draw_from_one_another(self):
+        drawn = {path.stem: {node.module.split(".")[1] for node in tree_of(path).body
+                             if isinstance(node, ast.ImportFrom)} for path in FILES}
+        while drawn:
+            free = [name for name in drawn if not drawn[name] & set(drawn)]
+            self.assertTrue(free, drawn)
+            for name in free:
+                del drawn[name]
 
     def test_imports(self):
         for path in FILES:

@@ -3,11 +3,10 @@
 import unittest
 
 from rootrows.numbers import minus, plus, row
-from samples import BIG, FIELDS, Fixed, NO_FIELDS, PRODUCTS, fractions_of, row_of, rows_for, rows_that_are_none
+from samples import (BIG, FIELDS, Fixed, NO_FIELDS, ONE_EACH, PRODUCTS, fractions_of, row_of, rows_for,
+                     rows_that_are_none)
 
 CALLS = (plus, minus)
-# One field for each degree is enough where the degree alone matters.
-ONE_EACH = ([-5], [-2, 0], [1, -3, 0], [1, 0, -10, 0])
 
 
 class PlusMinusTest(unittest.TestCase):
