@@ -1,10 +1,8 @@
-"""Fields: which rows tell one, and how many places it has.
+"""Fields: which rows tell one.
 
-A polynomial is a list of whole numbers from the constant on, the last of them not 0; [] is 0.
-A field's row leaves out the highest number of f, which is 1.
+A polynomial is a list of whole numbers from the constant on. A field's row leaves out the highest number of f, which
+is 1.
 """
-
-from rootrows.divisors import without_divisor
 
 GREATEST_DEGREE = 4
 GREATEST_SIZE = 1000
@@ -66,28 +64,6 @@ def is_product_of_quadratics(field):
     return False
 
 
-def count_places(field):
-    """How many real roots f has, by the theorem of Sturm; f must be no product, so no root is a double one."""
-    chain = sturm_chain(polynomial_of(field))
-    far_above = [part[-1] for part in chain]
-    far_below = [part[-1] if len(part) % 2 == 1 else -part[-1] for part in chain]
-    return count_changes(far_below) - count_changes(far_above)
-
-
-def sturm_chain(f):
-    """f, its derivative, and then the remainders of the two before, negated, down to a constant."""
-    chain = [f, derivative_of(f)]
-    while len(chain[-1]) > 1:
-        rest = scaled_remainder(chain[-2], chain[-1])
-        chain.append([-number for number in rest])
-    return chain
-
-
-def count_changes(values):
-    """How often the sign changes from one value to the next; none of them is 0."""
-    return len([k for k in range(1, len(values)) if (values[k - 1] > 0) != (values[k] > 0)])
-
-
 def polynomial_of(field):
     return list(field) + [1]
 
@@ -97,33 +73,6 @@ def value_at(f, number):
     for factor in reversed(f):
         value = value * number + factor
     return value
-
-
-def derivative_of(f):
-    return [k * f[k] for k in range(1, len(f))]
-
-
-def scaled_remainder(f, g):
-    """The remainder of f divided by g, times a fraction above 0 that makes it whole and small.
-
-    The factor is kept above 0 since Sturm's chain lives on the signs.
-    """
-    rest = list(f)
-    while len(rest) >= len(g):
-        shift = len(rest) - len(g)
-        factor = rest[-1] if g[-1] > 0 else -rest[-1]
-        rest = [number * abs(g[-1]) for number in rest]
-        for k in range(len(g)):
-            rest[shift + k] -= factor * g[k]
-        rest = without_end_zeros(rest)
-    return without_divisor(rest)
-
-
-def without_end_zeros(values):
-    end = len(values)
-    while end > 0 and values[end - 1] == 0:
-        end -= 1
-    return values[:end]
 
 
 def divisors_of(number):

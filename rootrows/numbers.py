@@ -3,11 +3,15 @@
 The answer is 0 and behind it what is told, or a refusal alone.
 """
 
-from rootrows.fields import count_places, field_refusal
+from rootrows.expressions import Fault, row_after, steps_of
+from rootrows.fields import field_refusal
+from rootrows.places import count_places, floor_at, nearest_at, sign_at
 from rootrows.reckoning import added, are_rows, inverse_of, is_zero, multiplied, negated, one_form, raised, whole_row
 
 GREATEST_POWER = 20
 MOST_ROWS = 8
+LONGEST_TEXT = 512
+MOST_DECIMALS = 20
 
 
 def open_of(field):
@@ -89,6 +93,72 @@ def value(field, rows, x):
     for factor in reversed(factors):
         total = added(multiplied(field, total, x), factor)
     return [0] + one_form(total)
+
+
+def read(field, text):
+    """The one form of what the expression comes to; the text is a list of bytes."""
+    refusal = field_refusal(field)
+    if refusal != 0:
+        return [refusal]
+    if len(text) > LONGEST_TEXT:
+        return [-3]
+    try:
+        steps = steps_of(text)
+    except Fault as fault:
+        return [-6, fault.place]
+    answer = row_after(field, steps)
+    if answer is None:
+        return [-5]
+    return [0] + one_form(answer)
+
+
+def sign(k, field, a):
+    """-1, 0 or 1: the value of a at place k is below, at or above 0."""
+    refusal = refusal_at(k, field, a)
+    if refusal != 0:
+        return [refusal]
+    return [0, sign_at(k, field, a)]
+
+
+def floor(k, field, a):
+    """The greatest whole number that is not above the value of a at place k."""
+    refusal = refusal_at(k, field, a)
+    if refusal != 0:
+        return [refusal]
+    return [0, floor_at(k, field, a)]
+
+
+def digits(k, n, field, a):
+    """The bytes of the value of a at place k in decimal digits, rounded to n digits behind the point."""
+    refusal = refusal_at(k, field, a)
+    if refusal != 0:
+        return [refusal]
+    if n > MOST_DECIMALS:
+        return [-3]
+    scale = 1
+    for step in range(n):
+        scale = scale * 10
+    scaled = [number * scale for number in a[:-1]] + [a[-1]]
+    return [0] + [ord(mark) for mark in decimal_text(nearest_at(k, field, scaled), n)]
+
+
+def decimal_text(number, n):
+    """The number divided by 10 n times, with n digits behind the point."""
+    front = "-" if number < 0 else ""
+    text = str(abs(number)).zfill(n + 1)
+    if n == 0:
+        return front + text
+    return front + text[:-n] + "." + text[-n:]
+
+
+def refusal_at(k, field, a):
+    """The first refusal that the field, the row or the place calls for, 0 if there is none."""
+    refusal = refusal_of(field, [a])
+    if refusal != 0:
+        return refusal
+    if k >= count_places(field):
+        return -4
+    return 0
 
 
 def refusal_of(field, operands):

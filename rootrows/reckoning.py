@@ -30,6 +30,11 @@ def whole_row(number, degree):
     return [number] + [0] * (degree - 1) + [1]
 
 
+def root_row(field):
+    """The row of x. In a field of degree 1 it is a whole number."""
+    return remainder_of(field, [0, 1] + [0] * (len(field) - 2)) + [1]
+
+
 def is_zero(a):
     return not any(a[:-1])
 

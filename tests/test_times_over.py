@@ -176,8 +176,8 @@ class TimesOverTest(unittest.TestCase):
 
     def test_kinds(self):
         for call in CALLS:
-            for field, a, b in [([-2, 0], [6, -4, 2], [1, 1, 1]), ([-2, 0], [6, -4, 2], [0, 0, 1]), ([-5], [1, 1], [2, 1]),
-                                ([-2, 0], [], []), ([0, 0], [], []), ([], [], [])]:
+            for field, a, b in [([-2, 0], [6, -4, 2], [1, 1, 1]), ([-2, 0], [6, -4, 2], [0, 0, 1]),
+                                ([-5], [1, 1], [2, 1]), ([-2, 0], [], []), ([0, 0], [], []), ([], [], [])]:
                 answer = call(field, a, b)
                 self.assertIs(type(answer), list)
                 self.assertTrue(all(type(n) is int for n in answer))
