@@ -5,13 +5,16 @@ The answer is 0 and behind it what is told, or a refusal alone.
 
 from rootrows.expressions import Fault, row_after, steps_of
 from rootrows.fields import field_refusal
-from rootrows.places import count_places, floor_at, nearest_at, sign_at
-from rootrows.reckoning import added, are_rows, inverse_of, is_zero, multiplied, negated, one_form, raised, whole_row
+from rootrows.places import count_places, floor_at, nearest_at, parts_at, sign_at
+from rootrows.reckoning import added, are_rows, inverse_of, is_zero, multiplied, negated, norm_of, one_form, raised
+from rootrows.reckoning import trace_of, whole_row
+from rootrows.relations import least_polynomial
 
 GREATEST_POWER = 20
 MOST_ROWS = 8
 LONGEST_TEXT = 512
 MOST_DECIMALS = 20
+MOST_PARTS = 20
 
 
 def open_of(field):
@@ -140,6 +143,43 @@ def digits(k, n, field, a):
         scale = scale * 10
     scaled = [number * scale for number in a[:-1]] + [a[-1]]
     return [0] + [ord(mark) for mark in decimal_text(nearest_at(k, field, scaled), n)]
+
+
+def parts(k, n, field, a):
+    """The first n parts of the value of a at place k, or all if there are fewer."""
+    refusal = refusal_at(k, field, a)
+    if refusal != 0:
+        return [refusal]
+    if n > MOST_PARTS:
+        return [-3]
+    return [0] + parts_at(k, n, field, a)
+
+
+def trace(field, a):
+    """The trace of a, as a fraction."""
+    refusal = refusal_of(field, [a])
+    if refusal != 0:
+        return [refusal]
+    return [0] + one_form([trace_of(field, a[:-1]), a[-1]])
+
+
+def norm(field, a):
+    """The norm of a, as a fraction."""
+    refusal = refusal_of(field, [a])
+    if refusal != 0:
+        return [refusal]
+    bottom = 1
+    for step in range(len(field)):
+        bottom = bottom * a[-1]
+    return [0] + one_form([norm_of(field, a[:-1]), bottom])
+
+
+def least(field, a):
+    """The numbers of the least polynomial of a, from the constant on."""
+    refusal = refusal_of(field, [a])
+    if refusal != 0:
+        return [refusal]
+    return [0] + least_polynomial(field, a)
 
 
 def decimal_text(number, n):

@@ -1,7 +1,7 @@
 """Places: the real roots of f, from the least on, and the values of numbers there.
 
-A value that is a fraction is known at once. Any other is never whole, so bounds around it that come nearer and nearer
-have the same whole number below them in the end.
+A value that is a fraction is known at once. Any other is never whole, nor is what its parts leave over, so bounds
+around it that come nearer and nearer begin with the same parts in the end, as many as are asked for.
 
 A polynomial is a list of whole numbers from the constant on; those of Sturm's chain have a last number that is not 0,
 and [] is 0.
@@ -60,21 +60,52 @@ def nearest_at(k, field, a):
 
 
 def floor_at(k, field, a):
-    """The greatest whole number that is not above the value of a at place k.
+    """The greatest whole number that is not above the value of a at place k: the first of its parts."""
+    return parts_at(k, 1, field, a)[0]
+
+
+def parts_at(k, n, field, a):
+    """The first n parts of the value of a at place k, or all if there are fewer.
 
     1, x, ..., x^(d-1) are independent, so the value is a fraction just when only the first numerator is not 0.
     """
     if not any(a[1:-1]):
-        return a[0] // a[-1]
+        return fraction_parts(n, a[0], a[-1])
     chain = sturm_chain(polynomial_of(field))
     bits = FIRST_BITS
     low = root_between(k, chain, -ROOT_BOUND << bits, ROOT_BOUND << bits, bits)
-    floors = floor_bounds(a, low, bits)
-    while floors[0] != floors[1]:
-        low = root_between(k, chain, low << bits, (low + 1) << bits, 2 * bits)
+    found = parts_within(n, value_bounds(a, low, bits))
+    while len(found) < n:
+        low = nearer_root(k, chain, low, bits)
         bits = 2 * bits
-        floors = floor_bounds(a, low, bits)
-    return floors[0]
+        found = parts_within(n, value_bounds(a, low, bits))
+    return found
+
+
+def fraction_parts(n, top, bottom):
+    """The first n parts of a fraction, or all if there are fewer; its bottom is above 0."""
+    found = []
+    left = top
+    right = bottom
+    while len(found) < n and right != 0:
+        found.append(left // right)
+        rest = left % right
+        left = right
+        right = rest
+    return found
+
+
+def parts_within(n, bounds):
+    """The first parts, n at most, that all numbers between the bounds [low, high, scale] have in common.
+
+    Numbers that begin with the same parts lie side by side, so what both bounds begin with is common to all between.
+    """
+    below = fraction_parts(n, bounds[0], bounds[2])
+    above = fraction_parts(n, bounds[1], bounds[2])
+    end = 0
+    while end < min(len(below), len(above)) and below[end] == above[end]:
+        end += 1
+    return below[:end]
 
 
 def root_between(k, chain, low, high, bits):
@@ -86,18 +117,33 @@ def root_between(k, chain, low, high, bits):
     above = high
     while above - below > 1:
         middle = (below + above) // 2
-        if count_roots_below(chain, middle, 1 << bits) > k:
+        if is_root_below(k, chain, middle, bits):
             above = middle
         else:
             below = middle
     return below
 
 
-def count_roots_below(chain, top, bottom):
-    """How many real roots lie below the fraction, which is none, by the theorem of Sturm."""
-    values = [scaled_value(part, top, bottom) for part in chain]
-    here = [number for number in values if number != 0]
-    return count_changes(far_below(chain)) - count_changes(here)
+def nearer_root(k, chain, low, bits):
+    """The greatest whole number below root k times 2^(2 bits), if low is that of 2^bits, bits being FIRST_BITS or more.
+
+    No two roots are as near as these bits tell (a bound of Mahler's gives 2^-38 at least), so f has both signs around
+    root k. The straight line between the two values comes near to it; then bounds are widened until it lies within.
+    """
+    first = scaled_value(chain[0], low, 1 << bits)
+    second = scaled_value(chain[0], low + 1, 1 << bits)
+    guess = (low << bits) + (first << bits) // (first - second)
+    width = 1
+    while is_root_below(k, chain, guess - width, 2 * bits) or not is_root_below(k, chain, guess + width, 2 * bits):
+        width = 2 * width
+    return root_between(k, chain, guess - width, guess + width, 2 * bits)
+
+
+def is_root_below(k, chain, number, bits):
+    """Whether root k lies below the number divided by 2^bits, which is no root, by the theorem of Sturm."""
+    values = [scaled_value(part, number, 1 << bits) for part in chain]
+    here = [value for value in values if value != 0]
+    return count_changes(far_below(chain)) - count_changes(here) > k
 
 
 def scaled_value(f, top, bottom):
@@ -110,8 +156,8 @@ def scaled_value(f, top, bottom):
     return total
 
 
-def floor_bounds(a, low, bits):
-    """The floors of two bounds of a's value at the root that lies between low and low + 1, divided by 2^bits.
+def value_bounds(a, low, bits):
+    """Two bounds of a's value at the root that lies between low and low + 1, divided by 2^bits, and then their scale.
 
     The value at low differs from that at the root by no more than the way between, 1 / 2^bits, times the greatest slope
     of a's polynomial within the bound of the roots. All is scaled by 2^bits to the power d - 1.
@@ -123,7 +169,7 @@ def floor_bounds(a, low, bits):
         slope = slope * ROOT_BOUND + k * abs(numerators[k])
     gap = slope << (bits * (len(numerators) - 2))
     scale = a[-1] << (bits * (len(numerators) - 1))
-    return [(middle - gap) // scale, (middle + gap) // scale]
+    return [middle - gap, middle + gap, scale]
 
 
 def derivative_of(f):

@@ -97,6 +97,16 @@ def trace_of(field, numerators):
     return total
 
 
+def norm_of(field, numerators):
+    """The determinant of the map that takes each number to its product with these numerators.
+
+    It is s_d, which the product with the cofactor comes to, but for the sign: d roots of the map's polynomial multiply
+    to -s_d times -1 to the power d.
+    """
+    product = product_of(field, numerators, cofactor_of(field, numerators))[0]
+    return product if len(field) % 2 == 1 else -product
+
+
 def product_of(field, p, q):
     """The product of two lists of numerators."""
     product = [0] * (len(p) + len(q) - 1)

@@ -5,17 +5,10 @@ from decimal import Decimal, ROUND_FLOOR, ROUND_HALF_UP
 from fractions import Fraction
 from itertools import product
 
+from near import ALL, LAST, NEAR, SMALL, fraction_of, has_no_x, near_whole_rows
 from roots import places_of, value_at
-from rootrows.numbers import digits, floor, minus, open_of, plus, row, sign, times
+from rootrows.numbers import digits, floor, minus, open_of, plus, sign, times
 from samples import BIG, FIELDS, Fixed, NO_FIELDS, ONE_EACH, PRODUCTS, rows_for, rows_that_are_none
-
-LAST = 4294967295
-# Fields with two places near one another: x^d = 2 (22 x - 1)^2, so 22 x - 1 is near 0 at both.
-NEAR = [([-2, 88, -968], 3), ([-2, 88, -968, 0], 4)]
-ALL = FIELDS + NEAR
-# A field and a number with a power of it that is near 0 at a place, though its row has great numbers.
-SMALL = [([-2, 0], [-1, 1, 1]), ([-1, -1], [0, 1, 1]), ([-2, 0, 0], [-1, 1, 0, 1]), ([1, -3, 0], [0, 1, 0, 1]),
-         ([-1, -2, 1], [0, 1, 0, 1]), ([1, 0, -10, 0], [0, 1, 0, 0, 1]), ([-2, 0, 0, 0], [-1, 1, 0, 0, 1])]
 
 
 def text_of(k, n, field, a):
@@ -28,15 +21,6 @@ def sign_of(number):
     return (number > 0) - (number < 0)
 
 
-def fraction_of(a):
-    """The value of a row without x."""
-    return Fraction(a[0], a[-1])
-
-
-def has_no_x(a):
-    return not any(a[1:-1])
-
-
 def rounded(fraction, n):
     """As the document asks, of a fraction."""
     scaled = abs(fraction) * 10 ** n
@@ -46,16 +30,6 @@ def rounded(fraction, n):
     text = str(number).rjust(n + 1, "0")
     text = text[:len(text) - n] + ("." + text[len(text) - n:] if n else "")
     return ("-" if fraction < 0 and number else "") + text
-
-
-def near_whole_rows(field, a):
-    """The greatest power of a that may be handed in, and the same a whole number away."""
-    greatest = row(field, a)[1:]
-    while max(abs(n) for n in times(field, greatest, a)[1:]) <= BIG // 2:
-        greatest = times(field, greatest, a)[1:]
-    for away in (0, 1, -1, 1000, -10 ** 15):
-        for factor in (1, -1):
-            yield [factor * greatest[0] + away * greatest[-1]] + [factor * n for n in greatest[1:-1]] + greatest[-1:]
 
 
 class SampleTest(unittest.TestCase):
