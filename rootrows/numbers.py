@@ -8,7 +8,7 @@ from rootrows.fields import field_refusal
 from rootrows.places import count_places, floor_at, nearest_at, parts_at, sign_at
 from rootrows.reckoning import added, are_rows, inverse_of, is_zero, multiplied, negated, norm_of, one_form, raised
 from rootrows.reckoning import trace_of, whole_row
-from rootrows.relations import least_polynomial
+from rootrows.relations import count_independent, first_relation, least_polynomial
 
 GREATEST_POWER = 20
 MOST_ROWS = 8
@@ -83,17 +83,11 @@ def power(k, field, a):
 
 def value(field, rows, x):
     """The one form of p_0 + p_1 X + p_2 X^2 + ... at X = x, the rows being p_0, p_1, ..., one behind another."""
-    refusal = field_refusal(field)
+    refusal = refusal_of_rows(field, rows, [x])
     if refusal != 0:
         return [refusal]
-    degree = len(field)
-    if len(rows) > MOST_ROWS * (degree + 1):
-        return [-3]
-    factors = rows_apart(rows, degree)
-    if not are_rows(factors + [x], degree):
-        return [-9]
-    total = whole_row(0, degree)
-    for factor in reversed(factors):
+    total = whole_row(0, len(field))
+    for factor in reversed(rows_apart(rows, len(field))):
         total = added(multiplied(field, total, x), factor)
     return [0] + one_form(total)
 
@@ -182,6 +176,37 @@ def least(field, a):
     return [0] + least_polynomial(field, a)
 
 
+def whole(field, a):
+    """1 if the highest number of the least polynomial of a is 1, else 0."""
+    refusal = refusal_of(field, [a])
+    if refusal != 0:
+        return [refusal]
+    return [0, 1 if least_polynomial(field, a)[-1] == 1 else 0]
+
+
+def span(field, rows):
+    """How many of the rows, one behind another, at most are independent."""
+    refusal = refusal_of_rows(field, rows, [])
+    if refusal != 0:
+        return [refusal]
+    return [0, count_independent(rows_apart(rows, len(field)))]
+
+
+def told(field, rows, a):
+    """0 if a is no sum of the rows times fractions; or 1 and these fractions as a row."""
+    refusal = refusal_of_rows(field, rows, [a])
+    if refusal != 0:
+        return [refusal]
+    summands = rows_apart(rows, len(field))
+    relation = first_relation(summands + [a])
+    if relation == []:
+        return [0, 0]
+    if len(relation) <= len(summands):
+        return [-5]
+    # The rows and a, times the relation's numbers, come to 0; so a is the rows times these with the other sign.
+    return [0, 1] + negated(relation)
+
+
 def decimal_text(number, n):
     """The number divided by 10 n times, with n digits behind the point."""
     front = "-" if number < 0 else ""
@@ -207,6 +232,18 @@ def refusal_of(field, operands):
     if refusal != 0:
         return refusal
     if are_rows(operands, len(field)):
+        return 0
+    return -9
+
+
+def refusal_of_rows(field, rows, operands):
+    """The first refusal that the field, the rows one behind another or another row calls for, 0 if there is none."""
+    refusal = field_refusal(field)
+    if refusal != 0:
+        return refusal
+    if len(rows) > MOST_ROWS * (len(field) + 1):
+        return -3
+    if are_rows(rows_apart(rows, len(field)) + operands, len(field)):
         return 0
     return -9
 

@@ -27,6 +27,16 @@ def first_relation(rows):
     return []
 
 
+def count_independent(rows):
+    """How many of the rows at most are independent."""
+    lines = []
+    for row in rows:
+        line = reduced(row[:-1], lines)
+        if any(line):
+            lines.append(line)
+    return len(lines)
+
+
 def reduced(line, lines):
     """A line with 0 where one of the lines has its first number that is not 0.
 

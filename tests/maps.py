@@ -29,6 +29,21 @@ def determinant(matrix):
     return total
 
 
+def polynomial_of_map(field, a):
+    """The numbers of the polynomial of the map, from the highest on, by the traces of its powers (Newton)."""
+    d = len(field)
+    matrix = map_of(field, a)
+    sums = []
+    image = matrix
+    for k in range(d):
+        sums.append(diagonal_sum(image))
+        image = [combined(line, matrix, d) for line in image]
+    numbers = [Fraction(1)]
+    for k in range(1, d + 1):
+        numbers.append(-sum(numbers[k - i] * sums[i - 1] for i in range(1, k + 1)) / k)
+    return numbers
+
+
 def rank_of(vectors):
     """How many of the vectors at most are independent, by elimination column by column."""
     rest = [list(vector) for vector in vectors]

@@ -27,6 +27,14 @@ PRODUCTS = [
     [961, 0, 62, 0], [-1000, 0, 999, 0], [4, 0, -4, 0],
 ]
 
+# Fields of degree 4, with a number of degree 2 in each.
+WITHIN = [
+    ([1, 0, -10, 0], [0, 0, 1, 0, 1]), ([1, 0, -10, 0], [0, -9, 0, 1, 2]), ([1, 0, -10, 0], [0, 11, 0, -1, 2]),
+    ([2, 0, -4, 0], [0, 0, 1, 0, 1]), ([1, 0, 0, 0], [0, 0, 1, 0, 1]), ([1, 0, 0, 0], [0, 1, 0, 1, 1]),
+    ([1, 0, 0, 0], [0, 1, 0, -1, 1]), ([-2, 0, 0, 0], [0, 0, 1, 0, 1]), ([1, 1, 1, 1], [0, 0, 1, 1, 1]),
+    ([1, 0, -1000, 0], [0, 0, 1, 0, 1]),
+]
+
 # Rows of numbers that tell no field by their form.
 NO_FIELDS = [
     [], [1, 0, 0, 0, 0], [0, 0, 0, 0, 0], [1] * 10,
@@ -84,3 +92,23 @@ def rows_for(d):
         [2 ** 62, -2 ** 61, 2 ** 60, 0, 2 ** 62], [7 * 73, -7, 49 * 127, 0, BIG],
     ]
     return [numbers[:d] + numbers[-1:] for numbers in full]
+
+
+def numbers_of(field):
+    """The samples, x, and those of a lesser field with fractions."""
+    d = len(field)
+    found = rows_for(d)
+    if d > 1:
+        found.append([0, 1] + [0] * (d - 2) + [1])
+        found.append([5, -2] + [0] * (d - 2) + [6])
+    for larger, a in WITHIN:
+        if larger == field:
+            found.append(a)
+            found.append([3 * n for n in a[:-1]] + [4 * a[-1]])
+            found.append([7 * a[-1] - 5 * a[0]] + [-5 * n for n in a[1:-1]] + [9 * a[-1]])
+            found.append([BIG // 4 - 3 * a[0]] + [-3 * n for n in a[1:-1]] + [BIG // 2])
+    return found
+
+
+def one_behind_another(rows):
+    return [n for numbers in rows for n in numbers]

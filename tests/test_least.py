@@ -6,31 +6,7 @@ from math import gcd
 
 from maps import combined, determinant, map_of, powers_of, rank_of
 from rootrows.numbers import least, norm, plus, power, trace, value
-from samples import BIG, FIELDS, Fixed, NO_FIELDS, ONE_EACH, PRODUCTS, rows_for, rows_that_are_none
-
-# Fields of degree 4, with a number of degree 2 in each.
-WITHIN = [
-    ([1, 0, -10, 0], [0, 0, 1, 0, 1]), ([1, 0, -10, 0], [0, -9, 0, 1, 2]), ([1, 0, -10, 0], [0, 11, 0, -1, 2]),
-    ([2, 0, -4, 0], [0, 0, 1, 0, 1]), ([1, 0, 0, 0], [0, 0, 1, 0, 1]), ([1, 0, 0, 0], [0, 1, 0, 1, 1]),
-    ([1, 0, 0, 0], [0, 1, 0, -1, 1]), ([-2, 0, 0, 0], [0, 0, 1, 0, 1]), ([1, 1, 1, 1], [0, 0, 1, 1, 1]),
-    ([1, 0, -1000, 0], [0, 0, 1, 0, 1]),
-]
-
-
-def numbers_of(field):
-    """The samples, x, and those of a lesser field with fractions."""
-    d = len(field)
-    found = rows_for(d)
-    if d > 1:
-        found.append([0, 1] + [0] * (d - 2) + [1])
-        found.append([5, -2] + [0] * (d - 2) + [6])
-    for larger, a in WITHIN:
-        if larger == field:
-            found.append(a)
-            found.append([3 * n for n in a[:-1]] + [4 * a[-1]])
-            found.append([7 * a[-1] - 5 * a[0]] + [-5 * n for n in a[1:-1]] + [9 * a[-1]])
-            found.append([BIG // 4 - 3 * a[0]] + [-3 * n for n in a[1:-1]] + [BIG // 2])
-    return found
+from samples import BIG, FIELDS, Fixed, NO_FIELDS, ONE_EACH, PRODUCTS, WITHIN, numbers_of, rows_that_are_none
 
 
 class LeastTest(unittest.TestCase):

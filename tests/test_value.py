@@ -3,12 +3,8 @@
 import unittest
 
 from rootrows.numbers import plus, power, row, times, value
-from samples import (BIG, FIELDS, Fixed, NO_FIELDS, ONE_EACH, PRODUCTS, fractions_of, product_of_fractions, row_of,
-                     rows_for, rows_that_are_none)
-
-
-def one_behind_another(rows):
-    return [n for numbers in rows for n in numbers]
+from samples import (BIG, FIELDS, Fixed, NO_FIELDS, ONE_EACH, PRODUCTS, fractions_of, one_behind_another,
+                     product_of_fractions, row_of, rows_for, rows_that_are_none)
 
 
 class ValueTest(unittest.TestCase):
