@@ -127,7 +127,7 @@ def root_between(k, chain, low, high, bits):
 def nearer_root(k, chain, low, bits):
     """The greatest whole number below root k times 2^(2 bits), if low is that of 2^bits, bits being FIRST_BITS or more.
 
-    No two roots are as near as these bits tell (a bound of Mahler's gives 2^-38 at least), so f has both signs around
+    No two roots are as near as these bits tell (a bound of Mahler's gives more than 2^-39), so f has both signs around
     root k. The straight line between the two values comes near to it; then bounds are widened until it lies within.
     """
     first = scaled_value(chain[0], low, 1 << bits)
